@@ -1,0 +1,1 @@
+"""Whole-number arrays of up to four lengths, kept in eight slots."""
