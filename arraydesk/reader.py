@@ -1,4 +1,4 @@
-"""A way through the list of calls, number by number."""
+"""A way through a list of numbers, one by one: through the list of calls, or through a text's bytes."""
 
 
 class Reader:
@@ -10,6 +10,19 @@ class Reader:
 
     def is_done(self):
         return self.reached >= len(self.numbers)
+
+    def upcoming(self):
+        """The number that comes next, or None at the end."""
+        if self.is_done():
+            return None
+        return self.numbers[self.reached]
+
+    def passes(self, number):
+        """Goes past the next number if it is this one, and tells whether."""
+        if self.upcoming() != number:
+            return False
+        self.reached = self.reached + 1
+        return True
 
     def read_whole(self):
         number = self.numbers[self.reached]

@@ -4,4 +4,6 @@ WRONG = -1
 EMPTY = -2
 UNLIKE = -3
 NOWHERE = -4
+NOTHING = -5
 BEYOND = -6
+NO_TEXT = -8

@@ -3,33 +3,13 @@
 Cuts are one list: from, step and count of axis 0, then of axis 1, and so on.
 """
 
-from arraydesk.arrays import Array, cell_at
+from arraydesk.arrays import Array
 from arraydesk.refusals import BEYOND, NOWHERE, UNLIKE, WRONG
 from arraydesk.shapes import is_shape, number_of, places_of
 from arraydesk.slots import keep, slots_refusal, sources_refusal
+from arraydesk.spreading import spread_array, spreads
 
 MOST_COUNT = 1024
-
-
-def spreads(small, great):
-    ahead = len(great) - len(small)
-    if ahead < 0:
-        return False
-    for length, wanted in zip(small, great[ahead:]):
-        if length != wanted and length != 1:
-            return False
-    return True
-
-
-def place_before_spread(small, place):
-    """The place in the small shape whose cell stands at a place of the great one."""
-    ahead = len(place) - len(small)
-    return [0 if length == 1 else number for length, number in zip(small, place[ahead:])]
-
-
-def spread_array(array, lengths):
-    cells = [cell_at(array, place_before_spread(array.lengths, place)) for place in places_of(lengths)]
-    return Array(lengths, cells)
 
 
 def section_lengths(cuts):

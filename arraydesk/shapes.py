@@ -51,3 +51,16 @@ def place_of(lengths, cell):
 def places_of(lengths):
     """All places, in the order of their cells' numbers."""
     return [place_of(lengths, cell) for cell in range(cell_count(lengths))]
+
+
+def with_axis(numbers, axis, number):
+    """A shape or a place with one axis more, which comes to stand at that axis."""
+    return numbers[:axis] + [number] + numbers[axis:]
+
+
+def without_axis(numbers, axis):
+    return numbers[:axis] + numbers[axis + 1:]
+
+
+def with_length(lengths, axis, length):
+    return with_axis(without_axis(lengths, axis), axis, length)

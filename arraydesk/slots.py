@@ -1,6 +1,6 @@
 """The eight slots, and what is refused of a slot before all else."""
 
-from arraydesk.refusals import EMPTY, WRONG
+from arraydesk.refusals import BEYOND, EMPTY, WRONG
 
 SLOTS = 8
 
@@ -42,7 +42,24 @@ def slots_refusal(slots, k, sources):
     return sources_refusal(slots, sources)
 
 
+def axis_refusal(slots, k, sources, axis):
+    """The first refusal as of slots_refusal, then of an axis of the first source, or 0."""
+    refusal = slots_refusal(slots, k, sources)
+    if refusal != 0:
+        return refusal
+    if axis >= len(slots[sources[0]].lengths):
+        return WRONG
+    return 0
+
+
 def keep(slots, k, array):
     """Puts an array into slot k, and answers its lengths."""
     slots[k] = array
     return [0] + array.lengths
+
+
+def keep_reckoned(slots, k, array):
+    """As keep, but refused if there is none of some cell: None stands for it."""
+    if None in array.cells:
+        return [BEYOND]
+    return keep(slots, k, array)

@@ -1,9 +1,12 @@
-"""The calls that move whole axes: turn and join, 12 and 13."""
+"""The calls that move whole axes, or whole arrays along one: turn, join, roll and repeat, 12 to 15."""
 
 from arraydesk.arrays import Array, cell_at
 from arraydesk.refusals import BEYOND, UNLIKE, WRONG
-from arraydesk.shapes import is_shape, places_of
-from arraydesk.slots import keep, slots_refusal
+from arraydesk.rows import array_of_rows, rows_of
+from arraydesk.shapes import is_shape, places_of, with_length, without_axis
+from arraydesk.slots import axis_refusal, keep, slots_refusal
+
+MOST_TIMES = 1024
 
 
 def place_before_turn(axes, place):
@@ -20,24 +23,13 @@ def turned_array(array, axes):
     return Array(lengths, cells)
 
 
-def with_length(lengths, axis, length):
-    changed = list(lengths)
-    changed[axis] = length
-    return changed
-
-
 def lengths_join(first, second, axis):
     """Whether two shapes are of one rank and alike but for their lengths of this axis."""
-    if len(first) != len(second):
-        return False
-    return with_length(first, axis, second[axis]) == second
+    return len(first) == len(second) and without_axis(first, axis) == without_axis(second, axis)
 
 
-def joined_cell(first, second, axis, place):
-    length = first.lengths[axis]
-    if place[axis] < length:
-        return cell_at(first, place)
-    return cell_at(second, with_length(place, axis, place[axis] - length))
+def rolled_row(row, by):
+    return [row[(number - by) % len(row)] for number in range(len(row))]
 
 
 def call_turn(slots, k, i, axes):
@@ -50,23 +42,47 @@ def call_turn(slots, k, i, axes):
 
 
 def call_join(slots, k, axis, i, j):
-    refusal = slots_refusal(slots, k, [i, j])
+    refusal = axis_refusal(slots, k, [i, j], axis)
     if refusal != 0:
         return [refusal]
     first = slots[i]
     second = slots[j]
-    if axis >= len(first.lengths):
-        return [WRONG]
     if not lengths_join(first.lengths, second.lengths, axis):
         return [UNLIKE]
     lengths = with_length(first.lengths, axis, first.lengths[axis] + second.lengths[axis])
     if not is_shape(lengths):
         return [BEYOND]
-    cells = [joined_cell(first, second, axis, place) for place in places_of(lengths)]
-    return keep(slots, k, Array(lengths, cells))
+    rows = [row + behind for row, behind in zip(rows_of(first, axis), rows_of(second, axis))]
+    return keep(slots, k, array_of_rows(lengths, axis, rows))
+
+
+def call_roll(slots, k, axis, by, i):
+    refusal = axis_refusal(slots, k, [i], axis)
+    if refusal != 0:
+        return [refusal]
+    rows = [rolled_row(row, by) for row in rows_of(slots[i], axis)]
+    return keep(slots, k, array_of_rows(slots[i].lengths, axis, rows))
+
+
+def call_repeat(slots, k, axis, times, i):
+    refusal = axis_refusal(slots, k, [i], axis)
+    if refusal != 0:
+        return [refusal]
+    if times < 1 or times > MOST_TIMES:
+        return [WRONG]
+    array = slots[i]
+    lengths = with_length(array.lengths, axis, array.lengths[axis] * times)
+    if not is_shape(lengths):
+        return [BEYOND]
+    rows = [row * times for row in rows_of(array, axis)]
+    return keep(slots, k, array_of_rows(lengths, axis, rows))
 
 
 def turning_answer(slots, call, wholes, rows):
     if call == 12:
         return call_turn(slots, wholes[0], wholes[1], rows[0])
-    return call_join(slots, wholes[0], wholes[1], wholes[2], wholes[3])
+    if call == 13:
+        return call_join(slots, wholes[0], wholes[1], wholes[2], wholes[3])
+    if call == 14:
+        return call_roll(slots, wholes[0], wholes[1], wholes[2], wholes[3])
+    return call_repeat(slots, wholes[0], wholes[1], wholes[2], wholes[3])

@@ -31,6 +31,22 @@ EVERY_CALL = [
     ("shape", 5),
     ("drop", 6),
     ("cells", 6),
+    ("roll", 3, 1, -1, 0),
+    ("repeat", 4, 0, 2, 1),
+    ("both", 5, 1, 0, 1),
+    ("fold", 6, 0, 1, 0),
+    ("scan", 7, 3, 0, 0),
+    ("order", 3, 1, 0),
+    ("take", 3, 0, 1, 6),
+    ("make", 6, [2], [1, 0]),
+    ("take", 3, 1, 0, 6),
+    ("pack", 4, 0, 5),
+    ("land", 3, 1, 6, 6),
+    ("times", 2, 3, 0),
+    ("same", 2, 0),
+    ("text", 3),
+    ("read", 1, [91, 93, 10, 45, 53, 10]),
+    ("read", 1, [91, 93, 10, 45, 48, 10]),
 ]
 
 
@@ -50,6 +66,22 @@ class Interface(DeskCase):
         calls += [5, 5]
         calls += [4, 6]
         calls += [6, 6]
+        calls += [14, 3, 1, -1, 0]
+        calls += [15, 4, 0, 2, 1]
+        calls += [16, 5, 1, 0, 1]
+        calls += [17, 6, 0, 1, 0]
+        calls += [18, 7, 3, 0, 0]
+        calls += [19, 3, 1, 0]
+        calls += [20, 3, 0, 1, 6]
+        calls += [1, 6, 1, 2, 2, 1, 0]
+        calls += [20, 3, 1, 0, 6]
+        calls += [21, 4, 0, 5]
+        calls += [22, 3, 1, 6, 6]
+        calls += [23, 2, 3, 0]
+        calls += [24, 2, 0]
+        calls += [25, 3]
+        calls += [26, 1, 6, 91, 93, 10, 45, 53, 10]
+        calls += [26, 1, 6, 91, 93, 10, 45, 48, 10]
         self.assertEqual(calls, encoded(EVERY_CALL))
         told = [3, 0, 2, 3]
         told += [2, 0, 3]
@@ -65,6 +97,22 @@ class Interface(DeskCase):
         told += [3, 0, 3, 2]
         told += [1, 0]
         told += [1, -2]
+        told += [3, 0, 2, 3]
+        told += [2, 0, 6]
+        told += [3, 0, 2, 3]
+        told += [2, 0, 2]
+        told += [3, 0, 2, 3]
+        told += [3, 0, 2, 3]
+        told += [1, -4]
+        told += [2, 0, 2]
+        told += [3, 0, 2, 2]
+        told += [2, 0, 6]
+        told += [3, 0, 2, 2]
+        told += [3, 0, 2, 3]
+        told += [2, 0, 0]
+        told += [16, 0] + list(b"[2,2]\n2 1\n-1 4\n")
+        told += [1, 0]
+        told += [2, -8, 4]
         self.assertEqual(answers(calls), told)
 
     def test_one_call(self):
@@ -91,11 +139,27 @@ class Interface(DeskCase):
             (("put", 9, 6, [4, 6]), -1),
             (("turn", 9, 6, [4, 6]), -1),
             (("join", 9, 6, 4, 6), -1),
+            (("roll", 9, 6, 4, 6), -1),
+            (("repeat", 9, 6, 4, 6), -1),
+            (("both", 9, 6, 4, 6), -1),
+            (("fold", 9, 6, 4, 6), -1),
+            (("scan", 9, 6, 4, 6), -1),
+            (("order", 9, 6, 4), -1),
+            (("take", 9, 6, 4, 6), -1),
+            (("pack", 9, 6, 4), -1),
+            (("land", 9, 6, 4, 6), -1),
+            (("times", 9, 6, 4), -1),
+            (("same", 9, 6), -1),
+            (("text", 9), -1),
+            (("read", 9, [91, 93, 10]), -1),
+            (("read", 0, [6] * 8193), -1),
             (("at", 4, [4] * 2000), -2),
             (("put", 0, 4, []), -2),
         ):
             found = ask([("make", 0, [1], [8]), call, ("cells", 0)])
             self.assertEqual(found, [[0, 1], [number], [0, 8]], call)
+        found = ask([("make", 0, [1], [8]), ("read", 0, [91, 93, 10, 6, 0]), ("cells", 0)])
+        self.assertEqual(found, [[0, 1], [-8, 3], [0, 8]])
 
     def test_every_slot_is_empty_at_the_beginning(self):
         found = ask([("cells", slot) for slot in range(8)] + [("cells", 8)])

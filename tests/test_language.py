@@ -191,6 +191,49 @@ class Language(unittest.TestCase):
         for name, node in self.nodes(ast.Attribute):
             self.assertIn(node.attr, set(methods + values) | OWN_METHODS, (name, node.lineno))
 
+    def test_no_annotations_and_no_sets(self):
+        for name, node in self.nodes(ast.arg, ast.FunctionDef):
+            self.assertIsNone(node.annotation if isinstance(node, ast.arg) else node.returns, (name, node.lineno))
+        for name, node in self.nodes(ast.Name):
+            self.assertNotIn(node.id, ("set", "frozenset"), (name, node.lineno))
+
+    def test_own_functions_are_called_and_walked_at_once(self):
+        called = [node.func for name, node in self.nodes(ast.Call)]
+        walked = [node.iter for name, node in self.nodes(ast.For, ast.comprehension)]
+        for name, node in self.nodes(ast.Call):
+            if isinstance(node.func, ast.Name) and node.func.id in ("list", "sorted", "sum", "zip", "enumerate"):
+                walked += node.args
+            if isinstance(node.func, ast.Attribute):
+                self.assertEqual(node.keywords, [], (name, node.lineno))
+        for name, node in self.nodes(ast.Name):
+            if node.id in OWN_NAMES:
+                self.assertIn(node, called, (name, node.lineno))
+        for name, node in self.nodes(ast.Call):
+            if isinstance(node.func, ast.Name) and node.func.id in ("zip", "enumerate", "reversed", "range"):
+                self.assertIn(node, walked, (name, node.lineno))
+        for name, node in self.nodes(ast.Attribute):
+            if node.attr in OWN_METHODS:
+                self.assertIn(node, called, (name, node.lineno))
+
+    def test_lists_and_dicts_of_the_top_are_only_read(self):
+        for name, tree in self.trees.items():
+            kept = [node.targets[0].id for node in tree.body
+                    if isinstance(node, ast.Assign) and isinstance(node.value, (ast.List, ast.Tuple, ast.Dict))]
+            read = [node.value for node in ast.walk(tree)
+                    if isinstance(node, ast.Subscript) and isinstance(node.ctx, ast.Load)]
+            read += [node.args[0] for node in ast.walk(tree)
+                     if isinstance(node, ast.Call) and isinstance(node.func, ast.Name) and node.func.id == "len"]
+            for node in ast.walk(tree):
+                if isinstance(node, ast.Name) and isinstance(node.ctx, ast.Load) and node.id in kept:
+                    self.assertIn(node, read, (name, node.lineno))
+
+    def test_texts_and_escapes(self):
+        for name, text in self.texts.items():
+            self.assertIsNone(re.search(r"""\\[^nt\\'"]""", text), name)
+        for name, node in self.nodes(ast.Constant):
+            if isinstance(node.value, str):
+                self.assertNotIn("%", node.value, (name, node.lineno))
+
     def test_is_stands_beside_none_true_false(self):
         for name, node in self.nodes(ast.Compare):
             for op, right in zip(node.ops, node.comparators):
